@@ -1,0 +1,1 @@
+"""Onebreath: machines that draw from one store."""
