@@ -59,7 +59,7 @@ class PeriodTest(unittest.TestCase):
             self.assertEqual(after(world, rule, 10 ** 12), [0, 0])
 
     def test_all_comes_to_a_stop(self):
-        # It draws at 0, 2 and 4, and then nothing is left: ahead of beat 6 it waits for ever.
+        # It draws at 0, 2 and 4, and then nothing is left: ahead of beat 7 it waits, for ever.
         world = ((3, 3, 0), (((1, 2, 0),),))
         for rule in RULES:
             self.assertEqual(period(world, rule), (7, 1, (0,)))
@@ -78,7 +78,8 @@ class PeriodTest(unittest.TestCase):
             self.assertEqual(after(((5, 5, 0), ((), ((0, 2, 0),), ())), rule, 7), [0, 3, 0])
 
     def test_a_machine_without_steps_does_not_wait(self):
-        # Ahead of beat 1, machine 1 waits; were machine 0 to wait as long, beat 3 would be other.
+        # Machine 2 waits from beat 0 on ahead of beat 1, from beat 2 on ahead of beat 3: a machine 0
+        # that waited all along would make these unlike.
         world = ((1, 1, 0), ((), ((1, 1, 1),), ((1, 1, 1),)))
         self.assertEqual(period(world, ("wait", True)), (1, 2, (0, 1, 1)))
 
