@@ -54,14 +54,9 @@ def gained(early, late):
 
 def picture_of(run):
     """Return all that is alike ahead of two beats, if all goes on alike from them."""
-    doing = [(machine.at, left_of(machine, run.beat)) for machine in run.machines]
-    return run.have, tuple(doing), memory_of(run)
-
-
-def left_of(machine, beat):
-    """Return for how long yet the machine does its step, None if it does none."""
     # Ahead of a beat at which a step is over, 0 is left of it: that is not yet waiting.
-    return machine.over - beat if machine.is_busy() else None
+    doing = [(machine.at, machine.left(run.beat)) for machine in run.machines]
+    return run.have, tuple(doing), memory_of(run)
 
 
 def memory_of(run):

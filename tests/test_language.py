@@ -7,7 +7,7 @@ import unittest
 import warnings
 from pathlib import Path
 
-from onebreath import rounds, running
+from onebreath import halls, notes, orders, plans, rounds, running
 
 PACKAGE = Path(__file__).resolve().parent.parent / "onebreath"
 FILES = sorted(PACKAGE.glob("**/*.py"))
@@ -23,6 +23,14 @@ LIBRARY = {
 INTERFACE = {
     running: {"beats": ["world", "rule", "many"], "ends": ["world", "rule"], "waits": ["world", "rule"]},
     rounds: {"after": ["world", "rule", "many"], "period": ["world", "rule"]},
+    plans: {"judged": ["world", "plan"], "fewest": ["world"], "floors": ["world"]},
+    orders: {"need_of": ["world", "machine"], "order": ["world"], "least_start": ["world"]},
+    halls: {"Breath": ["store", "rule"], "again": ["store", "rule", "deeds"]},
+    notes: {"written": ["world"], "read": ["text"]},
+}
+METHODS = {
+    "enter": ["steps"], "tick": [], "pause": ["number"], "go": ["number"], "lend": ["many"], "back": ["many"],
+    "merge": ["store"], "standing": [], "deeds": [], "stock": [],
 }
 
 
@@ -87,6 +95,23 @@ class LanguageTest(unittest.TestCase):
                     function = getattr(module, name)
                     self.assertEqual(function.__module__, module.__name__)
                     self.assertEqual(list(inspect.signature(function).parameters), words)
+
+    def test_methods_stand_in_the_class_itself(self):
+        for name, words in METHODS.items():
+            with self.subTest(name):
+                method = vars(halls.Breath)[name]
+                self.assertEqual(list(inspect.signature(method).parameters), ["self"] + words)
+
+    def test_no_two_files_import_from_each_other(self):
+        wanted = {}
+        for path, tree in self.trees():
+            froms = [node.module for node in tree.body if isinstance(node, ast.ImportFrom)]
+            wanted["onebreath." + path.stem] = {name for name in froms if name.startswith("onebreath.")}
+        while wanted:
+            free = [name for name, needs in wanted.items() if not needs & set(wanted)]
+            self.assertNotEqual(free, [], wanted)
+            for name in free:
+                del wanted[name]
 
 
 if __name__ == "__main__":

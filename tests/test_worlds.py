@@ -3,7 +3,9 @@
 import copy
 import unittest
 
-from asking import ASKED, RIGHTS, RULE, refusal
+from asking import ASKED, RIGHTS, RULE, WORLD_ASKED, refusal
+from onebreath.orders import need_of
+from onebreath.plans import judged
 from onebreath.rounds import after, period
 from onebreath.running import beats, ends, waits
 
@@ -19,6 +21,18 @@ class Handed(unittest.TestCase):
         for name, ask in ASKED.items():
             with self.subTest(asked=name, world=world, rule=rule):
                 self.assertEqual(refusal(ask, world, rule), wanted)
+        if wanted is None or wanted[0] != "BadRule":
+            self.assert_without_rule(world, wanted)
+
+    def assert_without_rule(self, world, wanted):
+        for name, ask in WORLD_ASKED.items():
+            with self.subTest(asked=name, world=world):
+                told = refusal(ask, world)
+                # A world that can be may still hold no machine, or too many states.
+                if wanted is None and told in (("BadCount", {}), ("TooMany", {})):
+                    self.assertIn(name, ("need_of", "fewest"))
+                else:
+                    self.assertEqual(told, wanted)
 
 
 class StoreTest(Handed):
@@ -127,6 +141,19 @@ class TurnOfRefusalsTest(unittest.TestCase):
                 self.assertEqual(refusal(ask, self.good, self.bad_rule, beyond), ("BadRule", {}))
                 self.assertEqual(refusal(ask, self.good, RULE, beyond), ("BadCount", {}))
 
+    def test_plan_and_machine_behind_the_world(self):
+        for ask, wrong in ((judged, [[9]]), (judged, [[]] * 501), (need_of, 9), (need_of, -1)):
+            with self.subTest(ask=ask.__name__):
+                self.assertEqual(refusal(ask, self.bad_store, wrong), ("BadStore", {}))
+                self.assertEqual(refusal(ask, self.bad_steps, wrong), bad_step(0, 1))
+                self.assertIn(refusal(ask, self.good, wrong)[0], ("BadPlan", "BadCount"))
+
+    def test_world_ahead_of_too_many_states(self):
+        crowd = tuple([((1, 9, 1),) * 6] * 4)
+        self.assertEqual(refusal(WORLD_ASKED["fewest"], ((9, 9, 1), crowd)), ("TooMany", {}))
+        self.assertEqual(refusal(WORLD_ASKED["fewest"], ((9, 10, 1), crowd)), ("BadStore", {}))
+        self.assertEqual(refusal(WORLD_ASKED["fewest"], ((9, 9, 1), crowd + (((1, 9, 2),),))), bad_step(4, 0))
+
     def test_too_many_behind_all(self):
         self.assertEqual(refusal(period, self.endless, ("first", True)), ("BadRule", {}))
         self.assertEqual(refusal(period, self.endless, RULE), ("TooMany", {}))
@@ -156,6 +183,14 @@ class KeptTest(unittest.TestCase):
                     ask(world, kept)
                     self.assertEqual(world, self.world)
                     self.assertEqual(kept, rule)
+
+    def test_a_world_handed_in_without_a_rule_stays_as_it_is(self):
+        for name, ask in WORLD_ASKED.items():
+            with self.subTest(asked=name):
+                world = copy.deepcopy(self.world)
+                told = ask(world)
+                self.assertEqual(world, self.world)
+                self.assertEqual(ask(world), told)
 
     def test_the_same_asked_twice(self):
         for rule in self.rules():
